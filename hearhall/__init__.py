@@ -1,0 +1,1 @@
+"""Music listened to, in whole numbers."""
