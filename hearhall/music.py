@@ -1,16 +1,11 @@
-"""Samples read from bytes, and rows of samples worked on together."""
+"""Samples read from bytes, and rows of samples, words and bytes worked on together."""
 
-SAMPLE_LEAST = -32768
-SAMPLE_MOST = 32767
+from hearhall.parts import bits_unlike, held
+
 REFUSED = -2
 
 # How many bytes a sample of each kind has.
 SAMPLE_BYTES = (1, 2, 3, 4, 2)
-
-
-def held(number):
-    """The sample that is nearest to the number."""
-    return max(SAMPLE_LEAST, min(SAMPLE_MOST, number))
 
 
 def signed(octets):
@@ -102,3 +97,37 @@ def turns(x):
         if (x[i - 1] < 0) != (x[i] < 0):
             count = count + 1
     return [count]
+
+
+def middle(x):
+    """0 and, for each number, the middle one by size of five: two before it, it, and two behind it."""
+    if not x:
+        return [0]
+    wide = [x[0], x[0]] + x + [x[-1], x[-1]]
+    return [0] + [sorted(wide[i:i + 5])[2] for i in range(len(x))]
+
+
+def crest(w, x):
+    """0 and the greatest of each w numbers in a row; -2 alone unless w is 1 to 256, and at most x's length."""
+    if w < 1 or w > 256 or w > len(x):
+        return [REFUSED]
+    return [0] + [max(x[i:i + w]) for i in range(len(x) + 1 - w)]
+
+
+def sign_bits(numbers):
+    """A byte with a bit for each of up to eight numbers, the lowest for the first: 1 where it's below 0."""
+    octet = 0
+    for i, number in enumerate(numbers):
+        if number < 0:
+            octet = octet | (1 << i)
+    return octet
+
+
+def signs(x):
+    """0 and the bytes that hold a bit for each number: 1 where it's below 0."""
+    return [0] + [sign_bits(x[start:start + 8]) for start in range(0, len(x), 8)]
+
+
+def unlike(a, b):
+    """How many bits of a's words and b's differ, alone."""
+    return [sum([bits_unlike(x, y) for x, y in zip(a, b)])]
