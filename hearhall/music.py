@@ -1,6 +1,6 @@
 """Samples read from bytes, and rows of samples, words and bytes worked on together."""
 
-from hearhall.parts import bits_unlike, held
+from hearhall.parts import bits_unlike, held, lag, level_of
 
 REFUSED = -2
 
@@ -131,3 +131,36 @@ def signs(x):
 def unlike(a, b):
     """How many bits of a's words and b's differ, alone."""
     return [sum([bits_unlike(x, y) for x, y in zip(a, b)])]
+
+
+def counts(x):
+    """0 and how often each byte from 0 to 255 comes."""
+    often = [0] * 256
+    for octet in x:
+        often[octet] = often[octet] + 1
+    return [0] + often
+
+
+def is_peak(least, x, i):
+    """Whether x's i-th is least or more, more than what's before it and no less than what's behind it."""
+    if x[i] < least:
+        return False
+    if i > 0 and x[i] <= x[i - 1]:
+        return False
+    return i + 1 == len(x) or x[i] >= x[i + 1]
+
+
+def peaks(least, x):
+    """How many peaks there are, and their places."""
+    places = [i for i in range(len(x)) if is_peak(least, x, i)]
+    return [len(places)] + places
+
+
+def levels(e):
+    """0 and the level of each number."""
+    return [0] + [level_of(number) for number in e]
+
+
+def lags(k, x):
+    """0 and the lags from 0 on, below k."""
+    return [0] + [lag(x, j) for j in range(k)]
