@@ -1,8 +1,6 @@
 """Samples read from bytes, and rows of samples, words and bytes worked on together."""
 
-from hearhall.parts import bits_unlike, held, lag, level_of
-
-REFUSED = -2
+from hearhall.parts import REFUSED, Ear, bits_unlike, frames_of, held, lag, level_of, way_back, way_costs
 
 # How many bytes a sample of each kind has.
 SAMPLE_BYTES = (1, 2, 3, 4, 2)
@@ -164,3 +162,48 @@ def levels(e):
 def lags(k, x):
     """0 and the lags from 0 on, below k."""
     return [0] + [lag(x, j) for j in range(k)]
+
+
+def lag_apart(x, j):
+    """The sum of how far x's numbers are from those j places behind them."""
+    return sum([abs(p - q) for p, q in zip(x, x[j:])])
+
+
+def apart(k, x):
+    """0 and, for each j from 0 on, below k, how far the numbers j places from one another are apart."""
+    return [0] + [lag_apart(x, j) for j in range(k)]
+
+
+def pitch(low, high, x):
+    """The first lag from low to high that is a peak and nearly the greatest, alone; 0 if there's none."""
+    if low < 1 or low > high or high + 1 >= len(x):
+        return [0]
+    # One more at both ends, for the neighbours.
+    near = [lag(x, j) for j in range(low - 1, high + 2)]
+    top = max(near[1:-1])
+    if top <= 0:
+        return [0]
+    for i in range(1, len(near) - 1):
+        if near[i] >= near[i - 1] and near[i] >= near[i + 1] and 8 * near[i] >= 7 * top:
+            return [low - 1 + i]
+    return [0]
+
+
+def ear(bands, hop, most, said, coefs, x, y, z):
+    """0 and what an ear tells of three pushes; -2 alone unless bands is 1 to 33 and hop 1 to 4096."""
+    if bands < 1 or bands > 33 or hop < 1 or hop > 4096:
+        return [REFUSED]
+    listener = Ear(bands, hop, coefs)
+    answer = [0]
+    for pushed in (x, y, z):
+        answer.extend(listener.push(said, pushed, most))
+    return answer
+
+
+def way(n, m, w, band, a, b):
+    """How many pairs the cheapest way has, what it costs, and its pairs; -2 alone for sizes that are out of bounds."""
+    if w < 1 or w > 64 or n < 1 or n > 512 or m < 1 or m > 512 or band < 1:
+        return [REFUSED]
+    costs = way_costs(band, frames_of(w, n, a), frames_of(w, m, b))
+    pairs = way_back(costs)
+    return [len(pairs), costs[n - 1][m - 1]] + [65536 * i + j for i, j in pairs]

@@ -21,6 +21,8 @@ OUT_OF_BOUNDS = (
     ast.AsyncFunctionDef, ast.AsyncFor, ast.AsyncWith, ast.NamedExpr, ast.Starred, ast.SetComp, ast.DictComp,
     ast.GeneratorExp, ast.Div, ast.MatMult, ast.Import, ast.TryStar)
 
+SPECIAL_METHODS = ("__init__", "__eq__", "__repr__", "__str__", "__len__")
+
 WORDS = re.compile(r"\b(type|typing|typing_extensions|enum|Enum|IntEnum|StrEnum|Flag|IntFlag|Generic|Protocol|ABC|"
                    r"ABCMeta|namedtuple|NamedTuple|TypedDict|TYPE_CHECKING|abstractmethod)\b|"
                    r"dataclass|overload|contextmanager")
@@ -61,7 +63,7 @@ class Form(unittest.TestCase):
                 self.assertIsInstance(node.ctx, ast.Load, place)
         if isinstance(node, (ast.arg, ast.FunctionDef)):
             name = node.arg if isinstance(node, ast.arg) else node.name
-            self.assertFalse(hasattr(builtins, name), place)
+            self.assertTrue(name in SPECIAL_METHODS or not hasattr(builtins, name), place)
         if isinstance(node, ast.Constant):
             self.assertNotIsInstance(node.value, (float, bytes, complex), place)
         if isinstance(node, ast.ImportFrom):
