@@ -5,6 +5,9 @@ from hearhall.parts import REFUSED, Ear, bits_unlike, frames_of, held, lag, leve
 # How many bytes a sample of each kind has.
 SAMPLE_BYTES = (1, 2, 3, 4, 2)
 
+FIRST_PROFILE = (635, 223, 348, 233, 438, 409, 252, 519, 239, 366, 229, 288)
+SECOND_PROFILE = (633, 268, 352, 538, 260, 353, 254, 475, 398, 269, 334, 317)
+
 
 def signed(octets):
     """The number with sign that the bytes make, the highest first."""
@@ -207,3 +210,75 @@ def way(n, m, w, band, a, b):
     costs = way_costs(band, frames_of(w, n, a), frames_of(w, m, b))
     pairs = way_back(costs)
     return [len(pairs), costs[n - 1][m - 1]] + [65536 * i + j for i, j in pairs]
+
+
+def period(low, high, news):
+    """The first j from low to high with the greatest lag, alone; 0 for a low or high that is out of bounds."""
+    if low < 1 or low > high or high >= len(news):
+        return [0]
+    cut = [min(65535, number) for number in news]
+    sums = [lag(cut, j) for j in range(low, high + 1)]
+    return [low + sums.index(max(sums))]
+
+
+def best_before(spell, stiff, brought, t):
+    """The most that a beat before place t brings it, and the gap between; 0 and 0 where t is better the first."""
+    best = 0
+    best_gap = 0
+    for gap in range((spell + 1) // 2, min(2 * spell, t) + 1):
+        gain = brought[t - gap] - stiff * abs(gap - spell)
+        # Only more than the best up to now counts, so the shortest gap of those as good is kept.
+        if gain > best:
+            best = gain
+            best_gap = gap
+    return (best, best_gap)
+
+
+def beats_back(brought, gaps):
+    """The places of the beats, back from the first place that brings the most; in order."""
+    if not brought:
+        return []
+    place = brought.index(max(brought))
+    places = [place]
+    while gaps[place] > 0:
+        place = place - gaps[place]
+        places.append(place)
+    return list(reversed(places))
+
+
+def beats(spell, stiff, news):
+    """How many beats there are, and their places; -2 alone for numbers that are out of bounds."""
+    if spell < 1 or spell > 1024 or stiff > 65535 or len(news) > 4096:
+        return [REFUSED]
+    brought = []
+    gaps = []
+    for t in range(len(news)):
+        before = best_before(spell, stiff, brought, t)
+        brought.append(news[t] + before[0])
+        gaps.append(before[1])
+    places = beats_back(brought, gaps)
+    return [len(places)] + places
+
+
+def fold(bands, first, louds):
+    """0 and the levels' sums for each of twelve notes; -2 alone unless bands is 1 to 64."""
+    if bands < 1 or bands > 64:
+        return [REFUSED]
+    notes = [0] * 12
+    for i, loud in enumerate(louds):
+        note = (first + i % bands) % 12
+        notes[note] = notes[note] + loud
+    return [0] + notes
+
+
+def key_fit(profile, keynote, h):
+    """How well h fits the profile on this keynote."""
+    total = sum(profile)
+    return sum([h[(keynote + i) % 12] * (12 * part - total) for i, part in enumerate(profile)])
+
+
+def key(h):
+    """The first key that fits h best, alone: 0 to 11 by the first profile, 12 to 23 by the second."""
+    fits = [key_fit(FIRST_PROFILE, keynote, h) for keynote in range(12)]
+    fits.extend([key_fit(SECOND_PROFILE, keynote, h) for keynote in range(12)])
+    return [fits.index(max(fits))]
