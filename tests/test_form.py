@@ -83,6 +83,107 @@ class Form(unittest.TestCase):
         if isinstance(node, ast.Assign):
             self.assertEqual(len(node.targets), 1, place)
 
+    def test_the_top_of_a_file(self):
+        for path in files():
+            bound = []
+            for part in ast.parse(path.read_text()).body:
+                place = f"{path.name}:{part.lineno}"
+                self.assertIsInstance(part, (ast.Expr, ast.ImportFrom, ast.Assign, ast.FunctionDef, ast.ClassDef), place)
+                if isinstance(part, ast.Expr):
+                    self.assertIsInstance(part.value, ast.Constant, place)
+                if isinstance(part, ast.Assign):
+                    ast.literal_eval(part.value)
+                bound += self.bound_by(part)
+            self.assertEqual(len(bound), len(set(bound)), path.name)
+
+    def bound_by(self, part):
+        if isinstance(part, ast.ImportFrom):
+            self.assertTrue(all(name.asname is None for name in part.names))
+            return [name.name for name in part.names]
+        if isinstance(part, ast.Assign):
+            return [part.targets[0].id]
+        return [part.name] if isinstance(part, (ast.FunctionDef, ast.ClassDef)) else []
+
+    def test_no_local_is_called_like_an_import_or_a_class(self):
+        for path in files():
+            tree = ast.parse(path.read_text())
+            taken = [name for part in tree.body if isinstance(part, (ast.ImportFrom, ast.ClassDef))
+                     for name in self.bound_by(part)]
+            for node in ast.walk(tree):
+                if isinstance(node, ast.Name) and isinstance(node.ctx, ast.Store):
+                    self.assertNotIn(node.id, taken, f"{path.name}:{node.lineno}")
+                if isinstance(node, ast.arg):
+                    self.assertNotIn(node.arg, taken, f"{path.name}:{node.lineno}")
+
+    def test_imports_are_from_the_file_that_defines_the_name(self):
+        drawn = {}
+        for path in files():
+            drawn[path.stem] = []
+            for node in ast.walk(ast.parse(path.read_text())):
+                if isinstance(node, ast.ImportFrom):
+                    source = node.module.split(".")[1]
+                    defined = []
+                    for part in ast.parse((PACKAGE / f"{source}.py").read_text()).body:
+                        defined += [] if isinstance(part, ast.ImportFrom) else self.bound_by(part)
+                    for name in node.names:
+                        self.assertIn(name.name, defined, path.name)
+                    drawn[path.stem].append(source)
+        self.check_no_ring(drawn)
+
+    def check_no_ring(self, drawn):
+        """Takes away files that draw from none that is left, until none is left."""
+        while drawn:
+            free = [name for name in drawn if not any(source in drawn for source in drawn[name])]
+            self.assertNotEqual(free, [], f"these draw from one another: {sorted(drawn)}")
+            for name in free:
+                del drawn[name]
+
+    def test_methods_and_values_have_names_of_their_own(self):
+        methods, values = set(), set()
+        for path in files():
+            for node in ast.walk(ast.parse(path.read_text())):
+                if isinstance(node, ast.ClassDef):
+                    for part in node.body:
+                        self.assertIsInstance(part, ast.FunctionDef, path.name)
+                        methods.add(part.name)
+                if isinstance(node, ast.Attribute) and isinstance(node.ctx, ast.Store):
+                    values.add(node.attr)
+        self.assertEqual(methods & values, set())
+        for kind in (str, int, list, dict, set, bytes):
+            self.assertEqual((methods | values) & set(dir(kind)) - set(SPECIAL_METHODS), set(), kind)
+
+    def test_what_is_walked_is_not_kept(self):
+        for path in files():
+            tree = ast.parse(path.read_text())
+            walked = []
+            for node in ast.walk(tree):
+                if isinstance(node, (ast.For, ast.comprehension)):
+                    walked.append(node.iter)
+                if isinstance(node, ast.Call) and isinstance(node.func, ast.Name) and node.args:
+                    if node.func.id in ("list", "tuple", "dict", "sorted", "sum", "any", "all", "enumerate", "zip"):
+                        walked.append(node.args[0])
+            for node in ast.walk(tree):
+                if isinstance(node, ast.Call) and isinstance(node.func, ast.Name):
+                    if node.func.id in ("zip", "enumerate", "reversed", "range"):
+                        self.assertIn(node, walked, f"{path.name}:{node.lineno}")
+
+    def test_plain_expressions(self):
+        for path in files():
+            for node in ast.walk(ast.parse(path.read_text())):
+                place = f"{path.name}:{getattr(node, 'lineno', 0)}"
+                self.assertNotIsInstance(node, (ast.AnnAssign, ast.Set, ast.Pow), place)
+                if isinstance(node, ast.ListComp):
+                    self.assertEqual(len(node.generators), 1, place)
+                    self.assertLessEqual(len(node.generators[0].ifs), 1, place)
+                if isinstance(node, ast.Compare) and isinstance(node.ops[0], (ast.Is, ast.IsNot)):
+                    self.assertIsInstance(node.comparators[0], ast.Constant, place)
+                if isinstance(node, ast.Constant) and isinstance(node.value, str):
+                    self.assertNotIn("%", node.value, place)
+                if isinstance(node, ast.FunctionDef):
+                    self.assertIsNone(node.returns, place)
+                if isinstance(node, ast.arg):
+                    self.assertIsNone(node.annotation, place)
+
     def is_own(self, method):
         """Whether a class of the package has such a method."""
         for path in files():
