@@ -88,6 +88,15 @@ class Start(SteadyCase):
         self.assertEqual(self.call(ear, 0, 0, 9, 0, [], [], [], []), [-2])
         self.assertEqual(self.call(ear, 40, 65536, 9, 40, PLAIN * 40, [], [], []), [-2])
 
+    def test_what_was_heard_is_0(self):
+        # Anything but 0 before the first sample would be heard again by these filters.
+        for echo in (MOST, LEAST):
+            for place in (1, 2, 3, 4):
+                coefs = [0] * 5
+                coefs[place] = echo
+                answer = self.call(ear, 1, 3, 9, 1, coefs, [0, 0, 0], [], [])
+                self.assertEqual(answer, [0, 1, 3, 0, 0, 0, 0, 0, 0, 0])
+
     def test_refusal_comes_before_the_pushes(self):
         self.assertEqual(self.call(ear, 34, 1, 0, 7, PLAIN * 34, [1], [1], [1]), [-2])
 

@@ -112,6 +112,11 @@ class Add(SongsCase):
         prints = list(range(309))
         self.told([add(*prints), find(0, 308)], [0, 0], found(0, 308, 0))
 
+    def test_as_many_prints_as_a_song_may_have(self):
+        # More than a call may hand in, but the promise speaks of so many.
+        self.told([add(*range(4096)), votes(4095)], [0, 0], found(0, 4095, 1))
+        self.told([add(*range(4097)), votes(4095)], REFUSED, NOT_FOUND)
+
     def test_room_for_64(self):
         calls = [add(song) for song in range(64)]
         answers = [[song, 0] for song in range(64)]
