@@ -46,7 +46,7 @@ class Band:
         self.earlier = 0
         self.power = 0
 
-    def hear(self, heard, since, hop):
+    def powers_of(self, heard, since, hop):
         """Filters heard from its third number on; the sum of squares in each frame that goes.
 
         The first two of heard are the samples before; since is how many samples have come since the last frame.
@@ -107,7 +107,7 @@ class Ear:
         heard = self.tail + x
         rows = [[] for frame in range(frames)]
         for band in self.filters:
-            powers = band.hear(heard, self.since, self.hop)
+            powers = band.powers_of(heard, self.since, self.hop)
             for frame in range(frames):
                 rows[frame].append(level_of(powers[frame]))
         self.since = (self.since + len(x)) % self.hop
